@@ -1,0 +1,156 @@
+// Package ways_test looks at the source of the layers: the language features that their chapters ask for, and what they import.
+package ways_test
+
+import (
+	"go/ast"
+	"go/importer"
+	"go/parser"
+	"go/token"
+	"go/types"
+	"path/filepath"
+	"slices"
+	"strings"
+	"testing"
+)
+
+// layers are those that are built, the layers that they may call, and the features that their chapters ask for.
+var layers = []struct {
+	name  string
+	calls []string
+	ways  []string
+}{
+	{"plane", []string{"api"}, []string{"embedding", "promoted", "range-function", "map by arrays", "label", "generic-function"}},
+	{"faces", []string{"api", "plane"}, []string{"embedding", "promoted", "range-function", "map by arrays", "label", "generic-function"}},
+}
+
+// library is what LANGUAGE.md allows of the standard library.
+var library = []string{"bytes", "cmp", "container/heap", "errors", "iter", "maps", "math", "math/bits", "slices", "sort", "strconv", "strings", "sync", "sync/atomic", "unicode", "unicode/utf8"}
+
+// longest is how many lines a function may have.
+const longest = 60
+
+// source reads the packages of the module from their files, so that their types are known.
+type source struct {
+	files *token.FileSet
+	info  *types.Info
+	trees map[string][]*ast.File
+	known map[string]*types.Package
+	other types.Importer
+}
+
+func (s source) Import(path string) (*types.Package, error) {
+	folder, own := strings.CutPrefix(path, "giornata/")
+	if !own {
+		return s.other.Import(path)
+	}
+	if s.known[path] != nil {
+		return s.known[path], nil
+	}
+	names, err := filepath.Glob(filepath.Join("..", folder, "*.go"))
+	if err != nil {
+		return nil, err
+	}
+	for _, name := range names {
+		if strings.HasSuffix(name, "_test.go") {
+			continue
+		}
+		tree, err := parser.ParseFile(s.files, name, nil, 0)
+		if err != nil {
+			return nil, err
+		}
+		s.trees[path] = append(s.trees[path], tree)
+	}
+	p, err := (&types.Config{Importer: s}).Check(path, s.files, s.trees[path], s.info)
+	s.known[path] = p
+	return p, err
+}
+
+func newSource() source {
+	s := source{files: token.NewFileSet(), trees: map[string][]*ast.File{}, known: map[string]*types.Package{}, info: &types.Info{
+		Types: map[ast.Expr]types.TypeAndValue{}, Selections: map[*ast.SelectorExpr]*types.Selection{}, Uses: map[*ast.Ident]types.Object{}, Defs: map[*ast.Ident]types.Object{}}}
+	s.other = importer.ForCompiler(s.files, "source", nil)
+	return s
+}
+
+// Ways: the features that the chapters ask for.
+func TestWays(t *testing.T) {
+	s := newSource()
+	for _, layer := range layers {
+		path := "giornata/" + layer.name
+		if _, err := s.Import(path); err != nil {
+			t.Fatal(err)
+		}
+		found := map[string]bool{}
+		for _, tree := range s.trees[path] {
+			ast.Inspect(tree, func(n ast.Node) bool {
+				found[s.way(n)] = true
+				return true
+			})
+		}
+		for _, word := range layer.ways {
+			if !found[word] {
+				t.Errorf("package %s has no %s", layer.name, word)
+			}
+		}
+	}
+}
+
+// A layer calls those layers alone that the document lists, and LANGUAGE.md's packages; functions are not too long.
+func TestLanguage(t *testing.T) {
+	s := newSource()
+	for _, layer := range layers {
+		path := "giornata/" + layer.name
+		if _, err := s.Import(path); err != nil {
+			t.Fatal(err)
+		}
+		allowed := slices.Clone(library)
+		for _, name := range layer.calls {
+			allowed = append(allowed, "giornata/"+name)
+		}
+		for _, tree := range s.trees[path] {
+			for _, x := range tree.Imports {
+				if name := strings.Trim(x.Path.Value, `"`); !slices.Contains(allowed, name) {
+					t.Errorf("package %s imports %s", layer.name, name)
+				}
+			}
+			for _, x := range tree.Decls {
+				if f, ok := x.(*ast.FuncDecl); ok && s.line(f.End())-s.line(f.Pos()) >= longest {
+					t.Errorf("the function %s of package %s has more than %d lines", f.Name.Name, layer.name, longest)
+				}
+			}
+		}
+	}
+}
+
+func (s source) line(p token.Pos) int { return s.files.Position(p).Line }
+
+// way returns the word for a feature that a part of the source is.
+func (s source) way(n ast.Node) string {
+	switch x := n.(type) {
+	case *ast.StructType:
+		for _, f := range x.Fields.List {
+			if len(f.Names) == 0 {
+				return "embedding"
+			}
+		}
+	case *ast.SelectorExpr:
+		if l := s.info.Selections[x]; l != nil && l.Kind() != types.FieldVal && len(l.Index()) > 1 {
+			return "promoted"
+		}
+	case *ast.RangeStmt:
+		if _, ok := s.info.Types[x.X].Type.Underlying().(*types.Signature); ok {
+			return "range-function"
+		}
+	case *ast.MapType:
+		if _, ok := s.info.Types[x.Key].Type.Underlying().(*types.Array); ok {
+			return "map by arrays"
+		}
+	case *ast.LabeledStmt:
+		return "label"
+	case *ast.FuncDecl:
+		if x.Type.TypeParams != nil {
+			return "generic-function"
+		}
+	}
+	return ""
+}
