@@ -21,6 +21,7 @@ var layers = []struct {
 }{
 	{"plane", []string{"api"}, []string{"embedding", "promoted", "range-function", "map by arrays", "label", "generic-function"}},
 	{"faces", []string{"api", "plane"}, []string{"embedding", "promoted", "range-function", "map by arrays", "label", "generic-function"}},
+	{"cartoon", []string{"api", "plane", "faces"}, []string{"map of functions", "panic", "recover", "defer", "closure", "array", "range-function", "variadic", "function as parameter"}},
 }
 
 // library is what LANGUAGE.md allows of the standard library.
@@ -145,11 +146,46 @@ func (s source) way(n ast.Node) string {
 		if _, ok := s.info.Types[x.Key].Type.Underlying().(*types.Array); ok {
 			return "map by arrays"
 		}
+		if _, ok := s.info.Types[x.Value].Type.Underlying().(*types.Signature); ok {
+			return "map of functions"
+		}
+	case *ast.ArrayType:
+		if x.Len != nil {
+			return "array"
+		}
 	case *ast.LabeledStmt:
 		return "label"
+	case *ast.DeferStmt:
+		return "defer"
+	case *ast.FuncLit:
+		return "closure"
+	case *ast.Ellipsis:
+		return "variadic"
+	case *ast.CallExpr:
+		return s.builtin(x)
 	case *ast.FuncDecl:
-		if x.Type.TypeParams != nil {
-			return "generic-function"
+		return s.shape(x)
+	}
+	return ""
+}
+
+// builtin returns the name of the built-in function that is called.
+func (s source) builtin(x *ast.CallExpr) string {
+	if f, ok := x.Fun.(*ast.Ident); ok {
+		if b, ok := s.info.Uses[f].(*types.Builtin); ok {
+			return b.Name()
+		}
+	}
+	return ""
+}
+
+func (s source) shape(x *ast.FuncDecl) string {
+	if x.Type.TypeParams != nil {
+		return "generic-function"
+	}
+	for _, p := range x.Type.Params.List {
+		if _, ok := p.Type.(*ast.FuncType); ok {
+			return "function as parameter"
 		}
 	}
 	return ""
