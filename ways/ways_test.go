@@ -22,6 +22,7 @@ var layers = []struct {
 	{"plane", []string{"api"}, []string{"embedding", "promoted", "range-function", "map by arrays", "label", "generic-function"}},
 	{"faces", []string{"api", "plane"}, []string{"embedding", "promoted", "range-function", "map by arrays", "label", "generic-function"}},
 	{"cartoon", []string{"api", "plane", "faces"}, []string{"map of functions", "panic", "recover", "defer", "closure", "array", "range-function", "variadic", "function as parameter"}},
+	{"days", []string{"api", "cartoon"}, []string{"set with methods", "range-function", "closure", "map", "struct-compared", "panic", "recover", "defer"}},
 }
 
 // library is what LANGUAGE.md allows of the standard library.
@@ -149,6 +150,11 @@ func (s source) way(n ast.Node) string {
 		if _, ok := s.info.Types[x.Value].Type.Underlying().(*types.Signature); ok {
 			return "map of functions"
 		}
+		return "map"
+	case *ast.BinaryExpr:
+		if _, ok := s.info.Types[x.X].Type.Underlying().(*types.Struct); ok && x.Op == token.EQL {
+			return "struct-compared"
+		}
 	case *ast.ArrayType:
 		if x.Len != nil {
 			return "array"
@@ -182,6 +188,11 @@ func (s source) builtin(x *ast.CallExpr) string {
 func (s source) shape(x *ast.FuncDecl) string {
 	if x.Type.TypeParams != nil {
 		return "generic-function"
+	}
+	if x.Recv != nil {
+		if b, ok := s.info.Types[x.Recv.List[0].Type].Type.Underlying().(*types.Basic); ok && b.Info()&types.IsUnsigned != 0 {
+			return "set with methods"
+		}
 	}
 	for _, p := range x.Type.Params.List {
 		if _, ok := p.Type.(*ast.FuncType); ok {
