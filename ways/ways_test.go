@@ -23,6 +23,7 @@ var layers = []struct {
 	{"faces", []string{"api", "plane"}, []string{"embedding", "promoted", "range-function", "map by arrays", "label", "generic-function"}},
 	{"cartoon", []string{"api", "plane", "faces"}, []string{"map of functions", "panic", "recover", "defer", "closure", "array", "range-function", "variadic", "function as parameter"}},
 	{"days", []string{"api", "cartoon"}, []string{"set with methods", "range-function", "closure", "map", "struct-compared", "panic", "recover", "defer"}},
+	{"order", []string{"api"}, []string{"set with methods", "closure", "map", "range-function", "method-value", "array", "label", "generic-function"}},
 }
 
 // library is what LANGUAGE.md allows of the standard library.
@@ -86,6 +87,7 @@ func TestWays(t *testing.T) {
 		for _, tree := range s.trees[path] {
 			ast.Inspect(tree, func(n ast.Node) bool {
 				found[s.way(n)] = true
+				found["method-value"] = found["method-value"] || s.rangesMethod(n)
 				return true
 			})
 		}
@@ -173,6 +175,16 @@ func (s source) way(n ast.Node) string {
 		return s.shape(x)
 	}
 	return ""
+}
+
+// rangesMethod reports whether a part of the source ranges over a method value.
+func (s source) rangesMethod(n ast.Node) bool {
+	x, ok := n.(*ast.RangeStmt)
+	if !ok {
+		return false
+	}
+	f, ok := x.X.(*ast.SelectorExpr)
+	return ok && s.info.Selections[f] != nil && s.info.Selections[f].Kind() == types.MethodVal
 }
 
 // builtin returns the name of the built-in function that is called.
