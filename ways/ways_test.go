@@ -24,6 +24,7 @@ var layers = []struct {
 	{"cartoon", []string{"api", "plane", "faces"}, []string{"map of functions", "panic", "recover", "defer", "closure", "array", "range-function", "variadic", "function as parameter"}},
 	{"days", []string{"api", "cartoon"}, []string{"set with methods", "range-function", "closure", "map", "struct-compared", "panic", "recover", "defer"}},
 	{"order", []string{"api"}, []string{"set with methods", "closure", "map", "range-function", "method-value", "array", "label", "generic-function"}},
+	{"pigment", []string{"api"}, []string{"function-field", "array of functions in fields", "array-compared", "closure", "range-function", "panic", "recover", "defer"}},
 }
 
 // library is what LANGUAGE.md allows of the standard library.
@@ -136,6 +137,9 @@ func (s source) way(n ast.Node) string {
 			if len(f.Names) == 0 {
 				return "embedding"
 			}
+			if _, ok := f.Type.(*ast.FuncType); ok {
+				return "function-field"
+			}
 		}
 	case *ast.SelectorExpr:
 		if l := s.info.Selections[x]; l != nil && l.Kind() != types.FieldVal && len(l.Index()) > 1 {
@@ -154,10 +158,13 @@ func (s source) way(n ast.Node) string {
 		}
 		return "map"
 	case *ast.BinaryExpr:
-		if _, ok := s.info.Types[x.X].Type.Underlying().(*types.Struct); ok && x.Op == token.EQL {
-			return "struct-compared"
+		if x.Op == token.EQL {
+			return s.compared(x.X)
 		}
 	case *ast.ArrayType:
+		if x.Len != nil && s.hasFunction(x.Elt) {
+			return "array of functions in fields"
+		}
 		if x.Len != nil {
 			return "array"
 		}
@@ -175,6 +182,28 @@ func (s source) way(n ast.Node) string {
 		return s.shape(x)
 	}
 	return ""
+}
+
+// compared returns the word for what is compared, if it is several values at once.
+func (s source) compared(x ast.Expr) string {
+	switch s.info.Types[x].Type.Underlying().(type) {
+	case *types.Struct:
+		return "struct-compared"
+	case *types.Array:
+		return "array-compared"
+	}
+	return ""
+}
+
+// hasFunction reports whether a type is a struct with a function in a field.
+func (s source) hasFunction(x ast.Expr) bool {
+	l, ok := s.info.Types[x].Type.Underlying().(*types.Struct)
+	for i := 0; ok && i < l.NumFields(); i++ {
+		if _, is := l.Field(i).Type().Underlying().(*types.Signature); is {
+			return true
+		}
+	}
+	return false
 }
 
 // rangesMethod reports whether a part of the source ranges over a method value.
