@@ -14,17 +14,11 @@ func MayOver(b api.Book, known int, x, y string) (bool, int) { return on(b, know
 
 // Strokes returns which colours are laid on wet plaster, and which ones on dry plaster.
 func Strokes(b api.Book, known int, colours []string) (fresh, dry []string, e api.Errno) {
-	if len(colours) > api.MaxColours {
-		return nil, nil, api.ErrLimit
+	if e = checkColours(colours); e != api.OK {
+		return nil, nil, e
 	}
 	k := on(b, known)
-	for i, x := range colours {
-		if !isName(x) {
-			return nil, nil, api.ErrArg
-		}
-		if slices.Contains(colours[:i], x) {
-			return nil, nil, api.ErrTwice
-		}
+	for _, x := range colours {
 		switch k.state(x) {
 		case api.PigFresh:
 			fresh = append(fresh, x)
@@ -35,6 +29,33 @@ func Strokes(b api.Book, known int, colours []string) (fresh, dry []string, e ap
 		}
 	}
 	return fresh, dry, api.OK
+}
+
+// checkColours returns why colours are not valid, or OK. Each error is looked for in all of them before the next one is.
+func checkColours(colours []string) api.Errno {
+	switch {
+	case len(colours) > api.MaxColours:
+		return api.ErrLimit
+	case !areNames(colours):
+		return api.ErrArg
+	case hasTwice(colours):
+		return api.ErrTwice
+	}
+	return api.OK
+}
+
+func areNames(list []string) bool {
+	return !slices.ContainsFunc(list, func(x string) bool { return !isName(x) })
+}
+
+// hasTwice reports whether a string occurs twice in a list.
+func hasTwice(list []string) bool {
+	for i, x := range list {
+		if slices.Contains(list[:i], x) {
+			return true
+		}
+	}
+	return false
 }
 
 // FirstFault returns the index of the first colour that may not lie over or beside one before it, and the Id of the rule.

@@ -37,18 +37,60 @@ func TestStrokes(t *testing.T) {
 		{"f1 f2 f1", api.ErrTwice},
 		{"unknown", api.ErrState},
 		{"f1 c", api.ErrState},
-		// The first colour with an error decides, and its first error.
-		{"f1 f1 A", api.ErrTwice},
+		// Each check is made for all colours before the next one is made.
+		{"f1 f1 A", api.ErrArg},
 		{"A f1 f1", api.ErrArg},
-		{"c A", api.ErrState},
+		{"A A", api.ErrArg},
+		{"c A", api.ErrArg},
 		{"A c", api.ErrArg},
-		{"unknown f1 f1", api.ErrState},
+		{"unknown f1 f1", api.ErrTwice},
 		{"f1 f1 unknown", api.ErrTwice},
+		{"c c", api.ErrTwice},
+		{"unknown f1 f1 A", api.ErrArg},
+		{"f1 f2 d1 unknown", api.ErrState},
 	} {
 		_, _, e := pigment.Strokes(palette(), 0, strings.Fields(x.colours))
 		want(t, "the error of Strokes of "+x.colours, e, x.e)
 	}
 	wants(t, "Strokes of an empty string", of(pigment.Strokes(palette(), 0, names("f1", ""))), names(), names(), api.ErrArg)
+}
+
+// F9, R1: all lists of up to four strings, of which some are no names and some have no state that can be laid.
+func TestStrokesErrorsInOrder(t *testing.T) {
+	states := map[string]uint8{"f1": api.PigFresh, "d1": api.PigDry, "c": api.PigContrary, "unknown": api.PigUnknown}
+	all := names("f1", "d1", "c", "unknown", "A", "")
+	isStuck := func(x string) bool { return states[x] != api.PigFresh && states[x] != api.PigDry }
+	isNone := func(x string) bool {
+		_, is := states[x]
+		return !is
+	}
+	b := palette()
+	for _, colours := range rows(all, 4) {
+		e := api.OK
+		switch {
+		case slices.ContainsFunc(colours, isNone):
+			e = api.ErrArg
+		case len(slices.Compact(slices.Sorted(slices.Values(colours)))) < len(colours):
+			e = api.ErrTwice
+		case slices.ContainsFunc(colours, isStuck):
+			e = api.ErrState
+		}
+		fresh, dry, got := pigment.Strokes(b, 0, colours)
+		if got != e || e != api.OK && len(fresh)+len(dry) > 0 || e == api.OK && len(fresh)+len(dry) != len(colours) {
+			t.Errorf("Strokes of %q: %q, %q, %d; want the error %d", colours, fresh, dry, got, e)
+		}
+	}
+}
+
+// rows returns all rows of up to so many strings, each of which may come again.
+func rows(all []string, most int) [][]string {
+	out := [][]string{nil}
+	for i := 0; len(out[i]) < most; i++ {
+		for _, x := range all {
+			out = append(out, slices.Concat(out[i], []string{x}))
+		}
+	}
+	return out
 }
 
 // F10: the first colour with a fault, the first one before it, and over before beside.

@@ -18,11 +18,11 @@ func precede(b api.Book, known int, colours []string) (precedence, api.Errno) {
 	if len(colours) > api.MaxColours {
 		return precedence{}, api.ErrLimit
 	}
+	if hasTwice(colours) {
+		return precedence{}, api.ErrTwice
+	}
 	k, p := on(b, known), precedence{count: len(colours)}
 	for i, x := range colours {
-		if slices.Contains(colours[:i], x) {
-			return precedence{}, api.ErrTwice
-		}
 		for j, y := range colours {
 			may, _ := k.mayOver(x, y)
 			p.before[i][j] = !may && i != j
