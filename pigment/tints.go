@@ -41,6 +41,7 @@ func Price(t []api.Tint, r api.Recipe) (api.Frac, api.Errno) {
 	return price(t, r), api.OK
 }
 
+// checkTints returns why tints are not valid, or OK. Each error is looked for in all of them before the next one is.
 func checkTints(t []api.Tint) api.Errno {
 	if len(t) > api.MaxTints {
 		return api.ErrLimit
@@ -48,15 +49,21 @@ func checkTints(t []api.Tint) api.Errno {
 	if len(t) == 0 {
 		return api.ErrArg
 	}
-	for i, x := range t {
-		if !isName(x.Name) || !isShade(x.Shade) || x.Price < 0 || x.Price > maxTintPrice {
+	var names []string
+	for _, x := range t {
+		if !isTint(x) {
 			return api.ErrArg
 		}
-		if slices.ContainsFunc(t[:i], func(y api.Tint) bool { return y.Name == x.Name }) {
-			return api.ErrTwice
-		}
+		names = append(names, x.Name)
+	}
+	if hasTwice(names) {
+		return api.ErrTwice
 	}
 	return api.OK
+}
+
+func isTint(x api.Tint) bool {
+	return isName(x.Name) && isShade(x.Shade) && x.Price >= 0 && x.Price <= maxTintPrice
 }
 
 // checkRecipe returns why tints or a recipe of them are not valid, or OK.

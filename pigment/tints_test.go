@@ -33,7 +33,11 @@ var tintFlaws = []struct {
 	{"a price below 0", []api.Tint{tint("a", -1, 1, 1, 1)}, api.ErrArg},
 	{"a price above 10000", []api.Tint{tint("a", 10001, 1, 1, 1)}, api.ErrArg},
 	{"a name twice", []api.Tint{tint("a", 1, 1, 1, 1), tint("b", 1, 2, 1, 1), tint("a", 2, 3, 1, 1)}, api.ErrTwice},
-	{"a name twice before a shade", []api.Tint{tint("a", 1, 1, 1, 1), tint("a", 2, 3, 1, 1), tint("b", 2, 3, 1, -1)}, api.ErrTwice},
+	{"a name twice before a shade", []api.Tint{tint("a", 1, 1, 1, 1), tint("a", 2, 3, 1, 1), tint("b", 2, 3, 1, -1)}, api.ErrArg},
+	{"a name twice before an empty name", []api.Tint{tint("a", 0, 0, 0, 0), tint("a", 0, 0, 0, 0), {}}, api.ErrArg},
+	{"a name twice before a price", []api.Tint{tint("a", 1, 1, 1, 1), tint("a", 2, 3, 1, 1), tint("b", 10001, 3, 1, 1)}, api.ErrArg},
+	{"an empty name twice", make([]api.Tint, 2), api.ErrArg},
+	{"twelve with a name twice", append(twelve()[:11], twelve()[0]), api.ErrTwice},
 	{"a shade before a name twice", []api.Tint{tint("a", 1, 1, 1, 1), tint("b", 2, 3, 1, -1), tint("a", 2, 3, 1, 1)}, api.ErrArg},
 	{"a name twice with a shade", []api.Tint{tint("a", 1, 1, 1, 1), tint("a", 2, 3, 1, -1)}, api.ErrArg},
 }
