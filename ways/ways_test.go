@@ -25,6 +25,7 @@ var layers = []struct {
 	{"days", []string{"api", "cartoon"}, []string{"set with methods", "range-function", "closure", "map", "struct-compared", "panic", "recover", "defer"}},
 	{"order", []string{"api"}, []string{"set with methods", "closure", "map", "range-function", "method-value", "array", "label", "generic-function"}},
 	{"pigment", []string{"api"}, []string{"function-field", "array of functions in fields", "array-compared", "closure", "range-function", "panic", "recover", "defer"}},
+	{"crew", []string{"api", "cartoon", "days", "pigment"}, []string{"array of structs", "range-function", "closure", "map", "delete", "slice of functions", "panic", "recover", "defer", "assertion", "generic-function", "struct-compared"}},
 }
 
 // library is what LANGUAGE.md allows of the standard library.
@@ -162,11 +163,10 @@ func (s source) way(n ast.Node) string {
 			return s.compared(x.X)
 		}
 	case *ast.ArrayType:
-		if x.Len != nil && s.hasFunction(x.Elt) {
-			return "array of functions in fields"
-		}
-		if x.Len != nil {
-			return "array"
+		return s.list(x)
+	case *ast.TypeAssertExpr:
+		if x.Type != nil {
+			return "assertion"
 		}
 	case *ast.LabeledStmt:
 		return "label"
@@ -180,6 +180,24 @@ func (s source) way(n ast.Node) string {
 		return s.builtin(x)
 	case *ast.FuncDecl:
 		return s.shape(x)
+	}
+	return ""
+}
+
+// list returns the word for a type of lists.
+func (s source) list(x *ast.ArrayType) string {
+	of := s.info.Types[x.Elt].Type.Underlying()
+	_, isFunction := of.(*types.Signature)
+	_, isStruct := of.(*types.Struct)
+	switch {
+	case x.Len == nil && isFunction:
+		return "slice of functions"
+	case x.Len != nil && s.hasFunction(x.Elt):
+		return "array of functions in fields"
+	case x.Len != nil && isStruct:
+		return "array of structs"
+	case x.Len != nil:
+		return "array"
 	}
 	return ""
 }
