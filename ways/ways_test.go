@@ -26,6 +26,7 @@ var layers = []struct {
 	{"order", []string{"api"}, []string{"set with methods", "closure", "map", "range-function", "method-value", "array", "label", "generic-function"}},
 	{"pigment", []string{"api"}, []string{"function-field", "array of functions in fields", "array-compared", "closure", "range-function", "panic", "recover", "defer"}},
 	{"crew", []string{"api", "cartoon", "days", "pigment"}, []string{"array of structs", "range-function", "closure", "map", "delete", "slice of functions", "panic", "recover", "defer", "assertion", "generic-function", "struct-compared"}},
+	{"reading", []string{"api", "order"}, []string{"array", "label", "range-function", "function-field", "map of functions in fields", "generic-function"}},
 }
 
 // library is what LANGUAGE.md allows of the standard library.
@@ -156,6 +157,9 @@ func (s source) way(n ast.Node) string {
 		}
 		if _, ok := s.info.Types[x.Value].Type.Underlying().(*types.Signature); ok {
 			return "map of functions"
+		}
+		if s.hasFunction(x.Value) {
+			return "map of functions in fields"
 		}
 		return "map"
 	case *ast.BinaryExpr:
