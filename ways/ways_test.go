@@ -27,6 +27,7 @@ var layers = []struct {
 	{"pigment", []string{"api"}, []string{"function-field", "array of functions in fields", "array-compared", "closure", "range-function", "panic", "recover", "defer"}},
 	{"crew", []string{"api", "cartoon", "days", "pigment"}, []string{"array of structs", "range-function", "closure", "map", "delete", "slice of functions", "panic", "recover", "defer", "assertion", "generic-function", "struct-compared"}},
 	{"reading", []string{"api", "order"}, []string{"array", "label", "range-function", "function-field", "map of functions in fields", "generic-function"}},
+	{"keep", []string{"api"}, []string{"array", "array-compared", "method-expression", "map of functions", "type-switch", "closure", "panic", "recover", "defer", "generic-function"}},
 }
 
 // library is what LANGUAGE.md allows of the standard library.
@@ -144,8 +145,12 @@ func (s source) way(n ast.Node) string {
 			}
 		}
 	case *ast.SelectorExpr:
-		if l := s.info.Selections[x]; l != nil && l.Kind() != types.FieldVal && len(l.Index()) > 1 {
+		l := s.info.Selections[x]
+		if l != nil && l.Kind() != types.FieldVal && len(l.Index()) > 1 {
 			return "promoted"
+		}
+		if l != nil && l.Kind() == types.MethodExpr {
+			return "method-expression"
 		}
 	case *ast.RangeStmt:
 		if _, ok := s.info.Types[x.X].Type.Underlying().(*types.Signature); ok {
@@ -172,6 +177,8 @@ func (s source) way(n ast.Node) string {
 		if x.Type != nil {
 			return "assertion"
 		}
+	case *ast.TypeSwitchStmt:
+		return "type-switch"
 	case *ast.LabeledStmt:
 		return "label"
 	case *ast.DeferStmt:
