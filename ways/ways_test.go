@@ -28,6 +28,7 @@ var layers = []struct {
 	{"crew", []string{"api", "cartoon", "days", "pigment"}, []string{"array of structs", "range-function", "closure", "map", "delete", "slice of functions", "panic", "recover", "defer", "assertion", "generic-function", "struct-compared"}},
 	{"reading", []string{"api", "order"}, []string{"array", "label", "range-function", "function-field", "map of functions in fields", "generic-function"}},
 	{"keep", []string{"api"}, []string{"array", "array-compared", "method-expression", "map of functions", "type-switch", "closure", "panic", "recover", "defer", "generic-function"}},
+	{"site", []string{"api", "plane", "faces", "cartoon", "days", "order", "pigment", "crew", "reading", "keep"}, []string{"map of functions", "method-expression", "closure", "panic", "recover", "defer", "array", "embedding", "promoted"}},
 }
 
 // library is what LANGUAGE.md allows of the standard library.
