@@ -12,22 +12,22 @@ func forms() map[string]form {
 		"day":      ofFigure((*Site).Advance),
 		"draw":     ofLines((*Site).Draw),
 		"hire":     ofLines((*Site).Hire),
-		"limits":   limits,
+		"limits":   ofLine((*Site).Limit),
 		"rule":     ofText((*Site).Rule),
 		"observe":  ofText((*Site).Observe),
-		"divide":   divide,
+		"divide":   ofCost("divided", (*Site).Divide),
 		"plan":     ofNothing("end", (*Site).Plan),
 		"replan":   ofNothing("end", (*Site).Replan),
 		"enter":    ofNothing("left", (*Site).Enter),
 		"delay":    ofFigure((*Site).Delay),
-		"lay":      lay,
-		"sign":     sign,
+		"lay":      ofStroke((*Site).Lay),
+		"sign":     ofAct((*Site).Sign),
 		"greet":    ofTwo((*Site).Greet),
 		"carry":    ofThree((*Site).Carry),
 		"lose":     ofThree((*Site).Lose),
 		"repeat":   ofThree((*Site).Repeat),
 		"stop":     ofTwo((*Site).Stop),
-		"crash":    crash,
+		"crash":    ofCrash((*Site).Crash),
 		"pages":    question((*session).pages),
 		"division": question((*session).division),
 		"work":     question((*session).work),
@@ -50,51 +50,26 @@ func setup(r *reader) action {
 	}
 }
 
-func limits(r *reader) action {
-	r.all()
-	line := r.line
-	return func(s *session) { s.printError(s.site.Limit(line)) }
-}
-
-func divide(*reader) action {
-	return func(s *session) {
-		cost, e := s.site.Divide()
-		s.printResult(e, "divided", cost.Days, cost.Seam)
-	}
-}
-
-func lay(r *reader) action {
-	task, wet := r.figure(), r.answer()
-	colour := r.all()
-	return func(s *session) { s.printError(s.site.Lay(task, wet, colour)) }
-}
-
-func sign(r *reader) action {
-	number := r.figure()
-	line := r.all()
-	return func(s *session) { s.printError(s.site.Sign(number, line)) }
-}
-
-func crash(r *reader) action {
-	number := r.figure()
-	var kept []int
-	for r.more {
-		kept = append(kept, r.signed())
-	}
-	return func(s *session) { s.printError(s.site.Crash(number, kept)) }
-}
-
 func read(r *reader) action {
 	a, b := r.figure(), r.figure()
 	return func(s *session) { s.read(a, b) }
 }
 
-// ofNothing is the form of a command without arguments that returns a number, which is printed behind a word.
+// ofNothing is the form of a command without arguments that returns a number, which is printed behind a word, and ofCost that of one that returns a cost.
 func ofNothing(word string, command func(s *Site) (int, api.Errno)) form {
 	return func(*reader) action {
 		return func(s *session) {
 			n, e := command(s.site)
 			s.printResult(e, word, n)
+		}
+	}
+}
+
+func ofCost(word string, command func(s *Site) (api.Cost, api.Errno)) form {
+	return func(*reader) action {
+		return func(s *session) {
+			cost, e := command(s.site)
+			s.printResult(e, word, cost.Days, cost.Seam)
 		}
 	}
 }
@@ -121,11 +96,19 @@ func ofThree(command func(s *Site, a, b, c int) api.Errno) form {
 	}
 }
 
-// ofText is the form of a command with everything behind the first blank.
+// ofText is the form of a command with everything behind the first blank, and ofLine that of one with the whole line.
 func ofText(command func(s *Site, text string) api.Errno) form {
 	return func(r *reader) action {
 		text := r.all()
 		return func(s *session) { s.printError(command(s.site, text)) }
+	}
+}
+
+func ofLine(command func(s *Site, line string) api.Errno) form {
+	return func(r *reader) action {
+		r.all()
+		line := r.line
+		return func(s *session) { s.printError(command(s.site, line)) }
 	}
 }
 
@@ -134,6 +117,32 @@ func ofLines(command func(s *Site, text string) api.Errno) form {
 	return func(r *reader) action {
 		text := r.following(r.figure())
 		return func(s *session) { s.printError(command(s.site, text)) }
+	}
+}
+
+// ofStroke, ofAct and ofCrash are the forms of the commands with a stroke, with the line of an act, and with what a crash leaves.
+func ofStroke(command func(s *Site, task int, wet bool, colour string) api.Errno) form {
+	return func(r *reader) action {
+		task, wet, colour := r.figure(), r.answer(), r.all()
+		return func(s *session) { s.printError(command(s.site, task, wet, colour)) }
+	}
+}
+
+func ofAct(command func(s *Site, number int, line string) api.Errno) form {
+	return func(r *reader) action {
+		number, line := r.figure(), r.all()
+		return func(s *session) { s.printError(command(s.site, number, line)) }
+	}
+}
+
+func ofCrash(command func(s *Site, number int, kept []int) api.Errno) form {
+	return func(r *reader) action {
+		number := r.figure()
+		var kept []int
+		for r.more {
+			kept = append(kept, r.signed())
+		}
+		return func(s *session) { s.printError(command(s.site, number, kept)) }
 	}
 }
 
